@@ -1,0 +1,1 @@
+"""Tagmachine: words that bear rights no row can forge."""
