@@ -1,6 +1,6 @@
 """Programs, and what a machine begins with: what is let by, and what is refused."""
 
-from tagmachine.errors import BadProgram, BadRooms, BadWord
+from tagmachine.errors import BadFuel, BadProgram, BadRooms, BadWord
 from tagmachine.words import CELLS, is_number, is_rights, is_whole, is_word
 
 MOST_ROWS = 60
@@ -8,6 +8,7 @@ BOXES = 8
 FAR = 63
 MOST_ROOMS = 12
 ROOM_CELLS = 4
+MOST_FUEL = 3000
 
 # For each row's first word, the kinds of the values behind it.
 SHAPES = {
@@ -115,3 +116,9 @@ def check_begin(program, rooms, cells, boxes):
 def first_cells(rooms, cells):
     """Tell what all cells hold at first, in a list of its own."""
     return cells + [0] * (ROOM_CELLS * rooms)
+
+
+def check_fuel(fuel):
+    """Refuse what is no fuel."""
+    if not is_whole(fuel, 0, MOST_FUEL):
+        raise BadFuel(f"fuel is 0 to {MOST_FUEL}")

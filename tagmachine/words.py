@@ -5,6 +5,7 @@ MOST = 9999
 STRETCH = 20000
 CELLS = 64
 RIGHTS = "ghls"
+KINDS = ("number", "key", "gate")
 
 
 def is_whole(value, least, most):
@@ -20,11 +21,14 @@ def is_number(value):
     return is_whole(value, LEAST, MOST)
 
 
+def common_rights(rights, others):
+    """Tell those of the rights that are among the others, too."""
+    return "".join([letter for letter in rights if letter in others])
+
+
 def is_rights(value):
     """Tell whether a value is a text of rights, each at most once, in their order."""
-    if not isinstance(value, str):
-        return False
-    return value == "".join([letter for letter in RIGHTS if letter in value])
+    return isinstance(value, str) and value == common_rights(RIGHTS, value)
 
 
 def is_tagged(value, tag, size):
@@ -54,6 +58,12 @@ def is_gate(value, rows, cells=CELLS):
 def is_word(value, rows, cells=CELLS):
     """Tell whether a value is a word beside a program of so many rows; its key is to the first so many cells."""
     return is_number(value) or is_key(value, cells) or is_gate(value, rows, cells)
+
+
+def kind_of(word):
+    """Tell of what kind a word is."""
+    # A tag is named as the kind of its words is.
+    return "number" if isinstance(word, int) else word[0]
 
 
 def taken(number):

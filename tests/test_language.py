@@ -17,6 +17,11 @@ BARRED_INSIDE = ("dataclass", "overload", "contextmanager")
 UNUSED = set("""register mro elements open input version_info with_traceback add_note attrgetter breakpoint builtins
     compile copyright credits delattr dir eval exec exit gc getattr globals hasattr help id importlib license locals
     methodcaller os quit setattr type vars sys format format_map""".split())
+BUILTIN_METHODS = set("""append clear copy count endswith extend find get index insert isalnum isalpha isdigit islower
+    isspace isupper items join keys ljust lower lstrip partition pop remove replace reverse rfind rjust rpartition rsplit
+    rstrip setdefault split splitlines startswith strip update upper values zfill bit_length sort add discard
+    __init__""".split())
+INTERFACE = {"Machine": "step sweep said cells boxes ended rooms"}
 BARRED_NODES = (ast.Global, ast.AsyncFunctionDef, ast.AsyncFor, ast.AsyncWith, ast.Await, ast.Import, ast.Div)
 
 
@@ -104,6 +109,34 @@ class Language(unittest.TestCase):
             for node in ast.walk(tree):
                 if isinstance(node, ast.Name) and hasattr(builtins, node.id):
                     self.assertIn(node.id, BUILTINS, path)
+
+    def test_methods_and_attributes(self):
+        methods, assigned, read = set(), set(), set()
+        for path, tree in trees():
+            for part in tree.body:
+                if isinstance(part, ast.ClassDef):
+                    methods.update(node.name for node in part.body if isinstance(node, ast.FunctionDef))
+            for node in ast.walk(tree):
+                if isinstance(node, ast.Attribute):
+                    (read if isinstance(node.ctx, ast.Load) else assigned).add(node.attr)
+        self.assertEqual(methods & assigned, set())
+        self.assertEqual({name for name in read - methods - assigned if name not in BUILTIN_METHODS}, set())
+
+    def test_methods_of_the_interface_stand_in_their_class(self):
+        for path, tree in trees():
+            for part in tree.body:
+                if isinstance(part, ast.ClassDef) and part.name in INTERFACE:
+                    made = {node.name for node in part.body if isinstance(node, ast.FunctionDef)}
+                    self.assertLessEqual(set(INTERFACE[part.name].split()), made)
+
+    def test_imports_go_one_way(self):
+        imported = {path.stem: {node.module.partition(".")[2] for node in tree.body if isinstance(node, ast.ImportFrom)}
+                    for path, tree in trees()}
+        while imported:
+            last = [name for name in imported if not imported[name] & set(imported)]
+            self.assertTrue(last, imported)
+            for name in last:
+                del imported[name]
 
     def test_no_floats_and_no_percent_signs(self):
         for path, tree in trees():

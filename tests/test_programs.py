@@ -3,8 +3,9 @@
 import copy
 import unittest
 
-from tagmachine.errors import BadProgram, BadRooms, BadWord
-from tagmachine.programs import check_begin, check_list, check_program, check_rooms, check_words, first_cells, is_row
+from tagmachine.errors import BadFuel, BadProgram, BadRooms, BadWord
+from tagmachine.programs import (check_begin, check_fuel, check_list, check_program, check_rooms, check_words,
+                                 first_cells, is_row)
 
 END = ("end",)
 # A row of each word with, for each value behind it, its kind.
@@ -173,6 +174,16 @@ class Rooms(Refusing):
             words[1] = 9
             self.assertEqual(told[:2], [8, 7])
             self.assertEqual(first_cells(rooms, words)[:2], [7, 9])
+
+
+class Fuel(Refusing):
+    def test_none_to_three_thousand(self):
+        for fuel in (0, 1, 2999, 3000):
+            self.assertIsNone(check_fuel(fuel))
+
+    def test_others_are_refused(self):
+        for fuel in (-1, 3001, 10 ** 30, *KINDS):
+            self.refused(BadFuel, None, None, check_fuel, fuel)
 
 
 class Words(Refusing):

@@ -3,7 +3,8 @@
 import itertools
 import unittest
 
-from tagmachine.words import is_gate, is_key, is_number, is_rights, is_whole, is_word, moved, taken
+from tagmachine.words import (KINDS, common_rights, is_gate, is_key, is_number, is_rights, is_whole, is_word, kind_of,
+                              moved, taken)
 
 ODD = (True, False, "", "5", "key", "g", (), (0,), ("key",), ("gate",), (0, 0, 0, 0, ""))
 
@@ -130,6 +131,19 @@ class Gates(unittest.TestCase):
         for value in wrong:
             self.assertFalse(is_gate(value, 5), value)
             self.assertFalse(is_word(value, 5), value)
+
+
+class Kinds(unittest.TestCase):
+    def test_each_kind(self):
+        self.assertEqual(KINDS, ("number", "key", "gate"))
+        for word, kind in ((0, "number"), (-10000, "number"), (9999, "number"), (key(), "key"), (key(at=-1), "key"),
+                           (("gate", 0, 5), "gate"), (("gate", 0, key()), "gate")):
+            self.assertEqual(kind_of(word), kind)
+
+    def test_common_rights(self):
+        choices = ["".join(some) for size in range(5) for some in itertools.combinations("ghls", size)]
+        for rights, others in itertools.product(choices, choices):
+            self.assertEqual(common_rights(rights, others), "".join(sorted(set(rights) & set(others))))
 
 
 class Taken(unittest.TestCase):
