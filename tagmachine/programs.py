@@ -62,14 +62,21 @@ def is_row(row, rows):
     return all([is_value(value, kind, rows) for value, kind in zip(values, kinds)])
 
 
+def first_wrong(rows):
+    """Tell the number of the first that is no row of a program of as many, or too much; None if there is none."""
+    for at, row in enumerate(rows):
+        if at == MOST_ROWS or not is_row(row, len(rows)):
+            return at
+    return None
+
+
 def check_program(program):
     """Refuse what is no program, by its first row that can't be."""
     if not isinstance(program, tuple) or not program:
         raise BadProgram(0)
-    rows = len(program)
-    for at, row in enumerate(program):
-        if at == MOST_ROWS or not is_row(row, rows):
-            raise BadProgram(at)
+    wrong = first_wrong(program)
+    if wrong is not None:
+        raise BadProgram(wrong)
 
 
 def check_rooms(rooms):
@@ -95,7 +102,8 @@ def check_list(words, many, first, allowed):
 
 
 def check_words(rows, rooms, cells, boxes):
-    """Refuse cells and boxes with which no machine with so many rooms, beside so many rows, begins."""
+    """Refuse rooms, then cells, then boxes with which no machine beside so many rows begins."""
+    check_rooms(rooms)
     many = kept_cells(rooms)
 
     def allowed(word):
@@ -109,7 +117,6 @@ def check_words(rows, rooms, cells, boxes):
 def check_begin(program, rooms, cells, boxes):
     """Refuse what no machine begins with; what is handed in first is refused first."""
     check_program(program)
-    check_rooms(rooms)
     check_words(len(program), rooms, cells, boxes)
 
 

@@ -32,6 +32,16 @@ def some_word(chance, rows):
     return ("gate", chance.randrange(rows + 1), chance.choice((some_number, some_key))(chance))
 
 
+def seldom_key(chance, rows):
+    """Choose a word that is a number mostly, and else bears a key to few cells, with few rights: not all is reached."""
+    if chance.random() < 0.6:
+        return some_number(chance)
+    begin = chance.randrange(PLAIN_CELLS)
+    end = min(begin + chance.choice((1, 1, 2, 5)), PLAIN_CELLS)
+    key = ("key", begin, end, chance.choice((begin, begin, end - 1, begin - 2, -10000)), some_rights(chance, 0.7))
+    return key if chance.random() < 0.7 else ("gate", chance.randrange(rows + 1), key)
+
+
 WORDS = """put put move add take less same is get get get set set set narrow fewer gate enter
     room room room shut shut say say go if if end""".split()
 # For programs that lend, keep and shut rooms, and mostly go straight on.
@@ -117,3 +127,24 @@ def some_begins(seed, many, words=WORDS, sizes=(1, 2, 5, 20, 40, 50)):
     chance = random.Random(seed)
     for _ in range(many):
         yield some_begin(chance, chance.choice(sizes), chance.choice((0, 1, 1, 2, 2, 3, 4, 12)), words)
+
+
+def some_explored(chance, rows, rooms, words, held):
+    """Choose rows as a run comes to them, such as are no faults there: so it goes far, through gates, too."""
+    cells = [held(chance, rows) for _ in range(64 - 4 * rooms)]
+    boxes = [held(chance, rows) for _ in range(8)]
+    program = [None] * rows
+    model = Model(program, rooms, cells, boxes)
+    for _ in range(200):
+        if model.at == rows:
+            break
+        at, word = model.at, chance.choice(words)
+        for _ in range(1 if program[at] else 20):
+            row = program[at] or some_row(chance, word, at, rows)
+            try:
+                model.at = model.do(row, at + 1)
+            except Fault:
+                continue
+            program[at] = row
+            break
+    return Begin(tuple(row or ("end",) for row in program), rooms, cells, boxes)

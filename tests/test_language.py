@@ -20,7 +20,7 @@ UNUSED = set("""register mro elements open input version_info with_traceback add
 BUILTIN_METHODS = set("""append clear copy count endswith extend find get index insert isalnum isalpha isdigit islower
     isspace isupper items join keys ljust lower lstrip partition pop remove replace reverse rfind rjust rpartition rsplit
     rstrip setdefault split splitlines startswith strip update upper values zfill bit_length sort add discard
-    __init__""".split())
+    removeprefix __init__""".split())
 INTERFACE = {"Machine": "step sweep said cells boxes ended rooms"}
 BARRED_NODES = (ast.Global, ast.AsyncFunctionDef, ast.AsyncFor, ast.AsyncWith, ast.Await, ast.Import, ast.Div)
 

@@ -1,10 +1,10 @@
 """Promise [8]: what run tells; and [1] to [4] once more, as far as run, run_swept and Machine are handed things."""
 
-import copy
 import unittest
 
 from chance import some_begins
-from tagmachine.errors import BadCell, BadFuel, BadProgram, BadRooms, BadText, BadWord, Over, TagError
+from refusing import Refusing
+from tagmachine.errors import BadFuel, BadProgram, BadRooms, BadWord, Over
 from tagmachine.machine import Machine, run_swept
 from tagmachine.plain import run
 
@@ -12,7 +12,6 @@ END = ("end",)
 CELLS = [0] * 64
 BOXES = [0] * 8
 LOOP = (("put", 0, 1), ("add", 1, 1, 0), ("say", 1), ("go", 1))
-ERRORS = (BadProgram, BadWord, BadRooms, BadFuel, BadCell, Over, BadText)
 
 
 class Fuel(unittest.TestCase):
@@ -63,19 +62,7 @@ class Fuel(unittest.TestCase):
                 self.assertEqual(run(*begin.told(), fuel), begin.model().run(fuel), begin.program)
 
 
-class Refusals(unittest.TestCase):
-    def refused(self, error, values, call, *told):
-        before = copy.deepcopy(told)
-        for _ in range(2):
-            with self.assertRaises(error) as caught:
-                call(*told)
-            self.assertIsInstance(caught.exception, TagError)
-            self.assertIsInstance(caught.exception, ValueError)
-            self.assertEqual([other for other in ERRORS if isinstance(caught.exception, other)], [error])
-            for name, value in values.items():
-                self.assertEqual(getattr(caught.exception, name), value)
-        self.assertEqual(told, before)
-
+class Refusals(Refusing):
     def by_all(self, error, values, program, rooms, cells, boxes):
         """See what is refused of a beginning by each that is handed one; fuel and sweeps come behind."""
         for fuel in (9, -1):

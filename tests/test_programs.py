@@ -3,6 +3,7 @@
 import copy
 import unittest
 
+from refusing import Refusing
 from tagmachine.errors import BadFuel, BadProgram, BadRooms, BadWord
 from tagmachine.programs import (check_begin, check_fuel, check_list, check_program, check_rooms, check_words,
                                  first_cells, is_row)
@@ -55,25 +56,15 @@ def many(row, count):
     return (row,) * count
 
 
-class Refusing(unittest.TestCase):
-    def refused(self, error, value, name, check, *told):
-        """Ask twice, see the same refusal, and that nothing handed in was changed."""
-        before = copy.deepcopy(told)
-        for _ in range(2):
-            with self.assertRaises(error) as caught:
-                check(*told)
-            if name:
-                self.assertEqual(getattr(caught.exception, name), value, told)
-        self.assertEqual(told, before)
-
+class BadOnes(Refusing):
     def bad_program(self, row, program):
-        self.refused(BadProgram, row, "row", check_program, program)
+        self.refused(BadProgram, {"row": row}, check_program, program)
 
     def bad_word(self, place, rows, rooms, cells, boxes):
-        self.refused(BadWord, place, "place", check_words, rows, rooms, cells, boxes)
+        self.refused(BadWord, {"place": place}, check_words, rows, rooms, cells, boxes)
 
 
-class Rows(Refusing):
+class Rows(BadOnes):
     def test_the_words_that_there_are(self):
         self.assertEqual(len({row[0] for row, kinds in ROWS}), 19)
         for row, kinds in ROWS:
@@ -108,7 +99,7 @@ class Rows(Refusing):
             self.bad_program(1, (END, row, END))
 
 
-class Programs(Refusing):
+class Programs(BadOnes):
     def test_how_many_rows(self):
         for count in (1, 2, 59, 60):
             self.assertIsNone(check_program(many(END, count)))
@@ -149,14 +140,14 @@ class Programs(Refusing):
         self.bad_program(0, ((END, END),))
 
 
-class Rooms(Refusing):
+class Rooms(BadOnes):
     def test_none_to_twelve(self):
         for rooms in range(13):
             self.assertIsNone(check_rooms(rooms))
 
     def test_others_are_refused(self):
         for rooms in (-1, 13, 14, 100, -12, True, False, "", "3", (), (3,)):
-            self.refused(BadRooms, None, None, check_rooms, rooms)
+            self.refused(BadRooms, {}, check_rooms, rooms)
 
     def test_at_first_rooms_hold_nothing(self):
         for rooms in range(13):
@@ -176,17 +167,17 @@ class Rooms(Refusing):
             self.assertEqual(first_cells(rooms, words)[:2], [7, 9])
 
 
-class Fuel(Refusing):
+class Fuel(BadOnes):
     def test_none_to_three_thousand(self):
         for fuel in (0, 1, 2999, 3000):
             self.assertIsNone(check_fuel(fuel))
 
     def test_others_are_refused(self):
         for fuel in (-1, 3001, 10 ** 30, *KINDS):
-            self.refused(BadFuel, None, None, check_fuel, fuel)
+            self.refused(BadFuel, {}, check_fuel, fuel)
 
 
-class Words(Refusing):
+class Words(BadOnes):
     def test_ordinary_words(self):
         for rooms in range(13):
             cells = [0] * (64 - 4 * rooms)
@@ -272,25 +263,25 @@ class Words(Refusing):
 
     def test_lists_of_other_words(self):
         self.assertIsNone(check_list([1, 2], 2, 5, lambda word: word > 0))
-        self.refused(BadWord, 6, "place", check_list, [1, 0], 2, 5, lambda word: word > 0)
+        self.refused(BadWord, {"place": 6}, check_list, [1, 0], 2, 5, lambda word: word > 0)
 
 
-class Begin(Refusing):
+class Begin(BadOnes):
     def test_what_a_machine_begins_with(self):
         self.assertIsNone(check_begin((END,), 0, [0] * 64, [0] * 8))
         self.assertIsNone(check_begin(many(END, 60), 12, [("gate", 60, 0)] * 16, [KEY] * 8))
 
     def test_what_is_handed_in_first_is_refused_first(self):
-        self.refused(BadProgram, 1, "row", check_begin, (END, ("go", 2)), 13, [], [])
-        self.refused(BadProgram, 0, "row", check_begin, (), True, [], [])
-        self.refused(BadRooms, None, None, check_begin, (END,), 13, [], [])
-        self.refused(BadRooms, None, None, check_begin, (END,), False, [], [0] * 8)
-        self.refused(BadWord, 0, "place", check_begin, (END,), 12, [], [])
-        self.refused(BadWord, 16, "place", check_begin, (END,), 12, [0] * 16, [])
+        self.refused(BadProgram, {"row": 1}, check_begin, (END, ("go", 2)), 13, [], [])
+        self.refused(BadProgram, {"row": 0}, check_begin, (), True, [], [])
+        self.refused(BadRooms, {}, check_begin, (END,), 13, [], [])
+        self.refused(BadRooms, {}, check_begin, (END,), False, [], [0] * 8)
+        self.refused(BadWord, {"place": 0}, check_begin, (END,), 12, [], [])
+        self.refused(BadWord, {"place": 16}, check_begin, (END,), 12, [0] * 16, [])
 
     def test_gates_are_to_the_programs_rows(self):
         self.assertIsNone(check_begin((END, END), 0, [("gate", 2, 0)] * 64, [("gate", 2, 0)] * 8))
-        self.refused(BadWord, 3, "place", check_begin, (END, END), 0, [0] * 3 + [("gate", 3, 0)] * 61, [0] * 8)
+        self.refused(BadWord, {"place": 3}, check_begin, (END, END), 0, [0] * 3 + [("gate", 3, 0)] * 61, [0] * 8)
 
     def test_what_is_let_by_is_not_changed(self):
         told = (((("go", 0)),), 3, [("gate", 1, KEY)] * 52, [KEY] * 8)
